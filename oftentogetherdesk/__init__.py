@@ -1,0 +1,1 @@
+"""What's often together: which things are often in one basket."""
