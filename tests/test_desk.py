@@ -2,7 +2,18 @@ import copy
 import unittest
 
 from oftentogetherdesk.desk import answers
-from lines import ALL_THINGS, MOST_BASKETS, ask, basket, begin, closure, line, split, support, things
+from lines import (ALL_THINGS, MOST_BASKETS, ask, basket, begin, check_line, closure, line, rule, rules, set_at, sets,
+                   split, support, things)
+
+# Every call, answered and refused.
+ALL_CALLS = [begin(), basket(7), basket(3), support(3), closure(1), closure(3), sets(1, 0), sets(1, 1), sets(1, 2),
+             sets(0, 0), set_at(1, 0, 6), set_at(2, 1, 0), set_at(1, 0, 7), rules(1, 0, 1), rules(1, 1, 1),
+             rules(1, 2, 1), rule(1, 1, 1, 6), rule(1, 1, 1, 7), begin(), basket(4095), rules(1, 0, 1),
+             rule(1, 0, 1, 0), sets(1, 1)]
+ALL_TOLD = [[0], [0], [1], [2], [0, 3], [1, 3], [7], [2], [1],
+            [-1], [1, 7], [2, 3], [-1], [12], [7],
+            [-1], [1, 6, 1, 1], [-1], [0], [0], [-2],
+            [-2], [1]]
 
 
 class Form(unittest.TestCase):
@@ -15,6 +26,14 @@ class Form(unittest.TestCase):
     def test_sets_that_look_like_calls(self):
         calls = [0, 1, 0, 1, 1, 1, 2, 1, 3, 2, 0, 2, 1, 2, 2, 2, 3, 3, 3]
         told = [1, 0, 1, 0, 1, 1, 1, 2, 1, 3, 1, 4, 1, 2, 1, 2, 1, 1, 2, 1, 3]
+        self.assertEqual(answers(calls), told)
+
+    def test_all_calls(self):
+        self.assertEqual(ask(*ALL_CALLS), ALL_TOLD)
+
+    def test_written_out_with_sets_and_rules(self):
+        calls = [0, 1, 7, 1, 3, 4, 2, 0, 5, 1, 1, 1, 6, 1, 1, 1, 7, 2, 1, 2, 1, 5, 1, 3, 0]
+        told = [1, 0, 1, 0, 1, 1, 1, 3, 2, 1, 7, 1, 7, 4, 2, 2, 1, 2, 1, -1]
         self.assertEqual(answers(calls), told)
 
     def test_line_of_600_calls(self):
@@ -31,7 +50,7 @@ class Form(unittest.TestCase):
         self.assertEqual(ask(*calls), expected)
 
     def test_a_list_of_whole_numbers(self):
-        told = answers(line([begin(), basket(3), support(1), closure(1), closure(3), closure(ALL_THINGS)]))
+        told = answers(line(ALL_CALLS + [closure(ALL_THINGS)]))
         self.assertIs(type(told), list)
         for number in told:
             self.assertIs(type(number), int)
@@ -39,7 +58,7 @@ class Form(unittest.TestCase):
 
 class NothingKept(unittest.TestCase):
     def test_list_handed_in_is_the_same(self):
-        calls = line([begin(), basket(5), basket(4), closure(1), begin(), basket(ALL_THINGS & 7), support(4)])
+        calls = line(ALL_CALLS)
         before = copy.copy(calls)
         answers(calls)
         self.assertEqual(calls, before)
@@ -53,7 +72,7 @@ class NothingKept(unittest.TestCase):
             append = clear = extend = insert = pop = remove = reverse = sort = refuse
             __setitem__ = __delitem__ = __iadd__ = __imul__ = refuse
 
-        calls = line([begin(), basket(5), closure(1), begin(), support(0)])
+        calls = line(ALL_CALLS)
         self.assertEqual(answers(Watched(calls)), answers(calls))
 
     def test_same_line_twice(self):
@@ -61,6 +80,14 @@ class NothingKept(unittest.TestCase):
         first = answers(calls)
         self.assertEqual(first, [1, 0, 1, 0, 1, 1, 1, 2, 2, 0, 6])
         self.assertEqual(answers(calls), first)
+
+    def test_all_calls_again_and_again(self):
+        for turn in range(3):
+            self.assertEqual(ask(*ALL_CALLS), ALL_TOLD)
+            self.assertEqual(ask(begin(), sets(1, 0), set_at(1, 0, 0), rules(1, 0, 1), rule(1, 0, 1, 0)),
+                             [[0], [0], [-1], [0], [-1]])
+            self.assertEqual(ask(begin(), basket(6), sets(1, 0), set_at(1, 1, 0), rules(1, 0, 1), rule(1, 0, 1, 1)),
+                             [[0], [0], [3], [1, 6], [2], [1, 4, 2, 1]])
 
     def test_two_lines_behind_one_another(self):
         full = [begin()] + [basket(9)] * MOST_BASKETS
@@ -194,7 +221,15 @@ class Closure(unittest.TestCase):
                                 [0, low], [0, high], [0, twelve], [1, twelve], [0, things(31)]])
 
 
-class Split(unittest.TestCase):
+class Helpers(unittest.TestCase):
+    def test_what_is_not_a_line_is_seen(self):
+        wrong = ([], [basket(1)], [begin()] * 601, [begin()] + [sets(1, 0)] * 10 + [set_at(1, 0, 0)] * 11,
+                 [begin()] + [rules(1, 0, 1)] * 4 + [rule(1, 0, 1, 0)] * 5, [begin(), basket(4095), begin(), basket(4096)])
+        for calls in wrong:
+            with self.assertRaises(AssertionError):
+                check_line(calls)
+        check_line([begin()] + [sets(1, 0)] * 20 + [rules(1, 0, 1)] * 8 + [basket(4095)] * 571)
+
     def test_wrong_counts_are_seen(self):
         for told in ([0], [2, 1], [1, 0, 3, 1]):
             with self.assertRaises(AssertionError):

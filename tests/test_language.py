@@ -87,6 +87,70 @@ class Language(unittest.TestCase):
                     if isinstance(node, ast.Constant):
                         self.assertIn(type(node.value), (int, str, bool, type(None)))
 
+    def test_narrow_forms(self):
+        for path, text in sources():
+            with self.subTest(file=path.name):
+                for node in nodes(text):
+                    if isinstance(node, ast.BinOp):
+                        self.assertNotIsInstance(node.op, ast.Pow)
+                    if isinstance(node, ast.Constant) and isinstance(node.value, str):
+                        self.assertNotIn("%", node.value)
+                    if isinstance(node, ast.Compare):
+                        for operator, other in zip(node.ops, node.comparators):
+                            if isinstance(operator, (ast.Is, ast.IsNot)):
+                                self.assertIn(getattr(other, "value", 0), (None, True, False))
+                    if isinstance(node, ast.ListComp):
+                        self.assertEqual(len(node.generators), 1)
+                        self.assertLessEqual(len(node.generators[0].ifs), 1)
+                    if isinstance(node, ast.arguments):
+                        self.assertEqual((node.vararg, node.kwarg, node.kwonlyargs, node.posonlyargs),
+                                         (None, None, [], []))
+                    if isinstance(node, ast.arg):
+                        self.assertIsNone(node.annotation)
+                    if isinstance(node, ast.FunctionDef):
+                        self.assertIsNone(node.returns)
+                    if isinstance(node, ast.keyword):
+                        self.assertIn(node.arg, ("key", "reverse", "default", "start", "strict"))
+
+    def test_top_of_files(self):
+        for path, text in sources():
+            with self.subTest(file=path.name):
+                bound = []
+                for node in ast.parse(text).body:
+                    self.assertIsInstance(node, (ast.Expr, ast.ImportFrom, ast.FunctionDef, ast.ClassDef, ast.Assign))
+                    if isinstance(node, ast.Assign):
+                        # No list or dict within another, and nothing worked out.
+                        ast.literal_eval(node.value)
+                        inner = list(ast.walk(node.value))[1:]
+                        self.assertFalse([one for one in inner if isinstance(one, (ast.List, ast.Dict))])
+                        bound.append(node.targets[0].id)
+                    elif isinstance(node, ast.ImportFrom):
+                        bound += [one.name for one in node.names]
+                    elif isinstance(node, ast.Expr):
+                        self.assertIsInstance(node.value, ast.Constant)
+                    else:
+                        bound.append(node.name)
+                self.assertEqual(len(bound), len(set(bound)))
+
+    def test_imports_name_what_the_file_defines(self):
+        defined = {path.stem: [name for node in ast.parse(text).body if not isinstance(node, ast.ImportFrom)
+                               for name in bound_names(ast.unparse(node))] for path, text in sources()}
+        drawn = {path.stem: [] for path, text in sources()}
+        for path, text in sources():
+            for node in ast.parse(text).body:
+                if isinstance(node, ast.ImportFrom):
+                    source = node.module.split(".")[1]
+                    drawn[path.stem].append(source)
+                    for one in node.names:
+                        self.assertIsNone(one.asname)
+                        self.assertIn(one.name, defined[source])
+        # Files that draw only from files already taken off, until none is left: so none goes round.
+        while drawn:
+            free = [stem for stem in drawn if not [one for one in drawn[stem] if one in drawn]]
+            self.assertTrue(free, drawn)
+            for stem in free:
+                drawn.pop(stem)
+
     def test_imports(self):
         for path, text in sources():
             with self.subTest(file=path.name):
